@@ -1,0 +1,1 @@
+"""Minimal solutions of a homogeneous linear equation in nonnegative whole numbers."""
