@@ -7,6 +7,7 @@ OUTSIDE_LIMITS = -22
 
 MOST_COEFFICIENTS = 4
 LARGEST_COEFFICIENT = 6
+HIGHEST_ELEMENT = 12
 
 
 def minimal_solutions(coefficients):
@@ -20,11 +21,24 @@ def minimal_solutions(coefficients):
     return answer
 
 
+def evaluate(coefficients, x):
+    """1 if x is a solution and 0 otherwise, then the value of the linear form."""
+    if not coefficients_allowed(coefficients) or not vector_allowed(coefficients, x):
+        return [OUTSIDE_LIMITS]
+    value = form_value(coefficients, x)
+    return [1 if value == 0 else 0, value]
+
+
 def coefficients_allowed(coefficients):
     """Whether the coefficients are within their limits."""
     if not 1 <= len(coefficients) <= MOST_COEFFICIENTS:
         return False
     return all_between(-LARGEST_COEFFICIENT, coefficients, LARGEST_COEFFICIENT)
+
+
+def vector_allowed(coefficients, x):
+    """Whether x is within its limits beside these coefficients."""
+    return len(x) == len(coefficients) and all_between(0, x, HIGHEST_ELEMENT)
 
 
 def all_between(lowest, numbers, highest):

@@ -10,6 +10,7 @@ PACKAGE = pathlib.Path(__file__).resolve().parent.parent / "leastsums"
 
 INTERFACE = {
     "minimal_solutions": ["coefficients"],
+    "evaluate": ["coefficients", "x"],
 }
 
 OWN_NAMES_OF_PYTHON = set("""
