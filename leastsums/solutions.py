@@ -4,6 +4,7 @@ Each operation answers one list of whole numbers. A refusal is a list of its cod
 """
 
 OUTSIDE_LIMITS = -22
+NO_SOLUTION = -33
 
 MOST_COEFFICIENTS = 4
 LARGEST_COEFFICIENT = 6
@@ -27,6 +28,24 @@ def evaluate(coefficients, x):
         return [OUTSIDE_LIMITS]
     value = form_value(coefficients, x)
     return [1 if value == 0 else 0, value]
+
+
+def decompose(coefficients, x):
+    """How many subtractions the greedy decomposition of x has, then how often each minimal solution is subtracted."""
+    refusal = refusal_of_solution(coefficients, x)
+    if refusal is not None:
+        return [refusal]
+    multiplicities = greedy_multiplicities(minimal_vectors(coefficients), x)
+    return [sum(multiplicities)] + multiplicities
+
+
+def refusal_of_solution(coefficients, x):
+    """The code that refuses these arguments where x has to be a solution; None if they are as they should be."""
+    if not coefficients_allowed(coefficients) or not vector_allowed(coefficients, x):
+        return OUTSIDE_LIMITS
+    if form_value(coefficients, x) != 0:
+        return NO_SOLUTION
+    return None
 
 
 def coefficients_allowed(coefficients):
@@ -93,3 +112,25 @@ def contains_one_of(vector, others):
 def is_contained(inner, outer):
     """Whether each value of the inner vector is at most the one of the outer vector in its place."""
     return all([low <= high for low, high in zip(inner, outer)])
+
+
+def greedy_multiplicities(vectors, x):
+    """How often each vector is subtracted if the first one that is contained in the rest of x always comes next."""
+    multiplicities = []
+    rest = x
+    # What isn't contained in the rest isn't contained in any later one, so no vector has its turn twice.
+    for vector in vectors:
+        times = times_contained(vector, rest)
+        multiplicities.append(times)
+        rest = rest_behind(rest, vector, times)
+    return multiplicities
+
+
+def times_contained(vector, rest):
+    """How often the vector, which isn't the zero vector, can be subtracted from the rest."""
+    return min([high // low for low, high in zip(vector, rest) if low > 0])
+
+
+def rest_behind(rest, vector, times):
+    """What is left of the rest once the vector is subtracted so many times, as a list of its own."""
+    return [high - times * low for low, high in zip(vector, rest)]

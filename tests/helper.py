@@ -1,8 +1,11 @@
-"""What several tests use: a search by the definition, lists that refuse a change, lists of coefficients."""
+"""What several tests use: searches by the definitions, many arguments, and tests that each operation has to pass."""
 
+import contextlib
+import io
 import itertools
 
 REFUSAL = [-22]
+NO_SOLUTION = [-33]
 
 # Each one is outside the limits, and may be handed in all the same.
 REFUSED_COEFFICIENTS = [
@@ -50,6 +53,35 @@ def minimal_by_definition(coefficients, highest):
     return sorted(minimal)
 
 
+def vectors_of_elements(values, length):
+    """All the vectors of this length with elements among the values."""
+    return [list(vector) for vector in itertools.product(values, repeat=length)]
+
+
+def solutions_of_elements(coefficients, values):
+    """All the solutions with elements among the values."""
+    vectors = vectors_of_elements(values, len(coefficients))
+    return [vector for vector in vectors if linear_form(coefficients, vector) == 0]
+
+
+def greedy_by_definition(minimal, solution):
+    """How often each minimal solution is subtracted, one subtraction after the other as the definition tells."""
+    rest = list(solution)
+    multiplicities = [0] * len(minimal)
+    while any(rest):
+        number = min(number for number, vector in enumerate(minimal) if contained(vector, rest))
+        multiplicities[number] += 1
+        rest = [rest[place] - minimal[number][place] for place in range(len(rest))]
+    return multiplicities
+
+
+def sum_of_multiples(multiplicities, vectors, length):
+    total = [0] * length
+    for times, vector in zip(multiplicities, vectors, strict=True):
+        total = [total[place] + times * vector[place] for place in range(length)]
+    return total
+
+
 def flat_answer(vectors):
     answer = [len(vectors)]
     for vector in vectors:
@@ -80,3 +112,74 @@ class Untouched(list):
 
     __setitem__ = __delitem__ = __iadd__ = __imul__ = refuse_change
     append = clear = extend = insert = pop = remove = reverse = sort = refuse_change
+
+
+class InterfaceTests:
+    """What holds for each operation. A test case that takes these tests over tells its operation and its CALLS."""
+
+    def answers(self):
+        return [self.operation(*arguments) for arguments in self.CALLS]
+
+    def test_one_list_of_whole_numbers(self):
+        for answer in self.answers():
+            self.assertIs(type(answer), list)
+            self.assertEqual({type(number) for number in answer}, {int})
+
+    def test_nothing_handed_in_is_changed(self):
+        for arguments in self.CALLS:
+            handed_in = [Untouched(given) if isinstance(given, list) else given for given in arguments]
+            self.operation(*handed_in)
+            self.assertEqual(handed_in, list(arguments))
+
+    def test_a_second_call_answers_as_the_first(self):
+        first = self.answers()
+        kept = [list(answer) for answer in first]
+        for answer in first:
+            answer.append(99)
+            answer[0] = 98
+        self.assertEqual(self.answers(), kept)
+
+    def test_it_prints_nothing(self):
+        shown = io.StringIO()
+        with contextlib.redirect_stdout(shown), contextlib.redirect_stderr(shown):
+            self.answers()
+        self.assertEqual(shown.getvalue(), "")
+
+
+class LimitsTests:
+    """The refusals of an operation on coefficients and x, which a test case takes over as those of InterfaceTests."""
+
+    def check_refused(self, coefficients, x):
+        self.assertEqual(self.operation(coefficients, x), REFUSAL, (coefficients, x))
+
+    def test_coefficients_outside_the_limits(self):
+        for coefficients in REFUSED_COEFFICIENTS:
+            self.check_refused(coefficients, [0] * len(coefficients))
+            self.check_refused(coefficients, [1] * len(coefficients))
+
+    def test_x_of_another_length(self):
+        for length in range(1, 5):
+            for other in range(7):
+                if other != length:
+                    self.check_refused([1, -1, 0, 2][:length], [0] * other)
+                    self.check_refused([1, 1, 1, 1][:length], [1] * other)
+                    self.check_refused([0] * length, [1] * other)
+
+    def test_an_element_of_x_above_its_limit(self):
+        for element in (13, 14, 4294967295):
+            for coefficients in ([1], [0], [1, -1], [2, -3, 1], [0, 0, 0, 0], [6, -6, 6, -6]):
+                for place in range(len(coefficients)):
+                    x = [0] * len(coefficients)
+                    x[place] = element
+                    self.check_refused(coefficients, x)
+                self.check_refused(coefficients, [element] * len(coefficients))
+
+    def test_both_outside_the_limits(self):
+        self.check_refused([], [1])
+        self.check_refused([], [13])
+        self.check_refused([7], [13])
+        self.check_refused([-7, 1], [0, 0, 0])
+        self.check_refused([1, 2, 3, 4, 5], [0, 0, 0, 0])
+        self.check_refused([1, 2, 3, 4, 5], [13, 0, 0, 0, 0])
+        self.check_refused([1, 2, 3, 4, 5, 6], [])
+        self.check_refused([2147483647, -2147483648], [4294967295, 4294967295])

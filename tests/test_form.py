@@ -11,6 +11,7 @@ PACKAGE = pathlib.Path(__file__).resolve().parent.parent / "leastsums"
 INTERFACE = {
     "minimal_solutions": ["coefficients"],
     "evaluate": ["coefficients", "x"],
+    "decompose": ["coefficients", "x"],
 }
 
 OWN_NAMES_OF_PYTHON = set("""

@@ -1,5 +1,3 @@
-import contextlib
-import io
 import unittest
 
 import helper
@@ -125,37 +123,15 @@ class Requirements(unittest.TestCase):
                 self.assertEqual(helper.linear_form(coefficients, vector), 0)
 
 
-class Interface(unittest.TestCase):
-    def test_one_list_of_whole_numbers(self):
-        for coefficients in ([2, -3, 1], [0, 0], [4], [], [7]):
-            answer = minimal_solutions(coefficients)
-            self.assertIs(type(answer), list)
-            self.assertEqual({type(number) for number in answer}, {int})
+class Interface(helper.InterfaceTests, unittest.TestCase):
+    operation = staticmethod(minimal_solutions)
+    CALLS = [
+        ([2, -3, 1],), ([1, -1],), ([0, 0],), ([0, 0, 0, 0],), ([6, -5, 4, -3],), ([5],),
+        ([],), ([7],), ([1, 2, 3, 4, 5],),
+    ]
 
     def test_the_argument_is_called_as_told(self):
         self.assertEqual(minimal_solutions(coefficients=[1, -1]), [1, 1, 1])
-
-    def test_nothing_handed_in_is_changed(self):
-        for coefficients in ([2, -3, 1], [0, 0, 0, 0], [6, -5, 4, -3], [], [7], [1, 2, 3, 4, 5]):
-            handed_in = helper.Untouched(coefficients)
-            minimal_solutions(handed_in)
-            self.assertEqual(handed_in, coefficients)
-
-    def test_a_second_call_answers_as_the_first(self):
-        lists = [[2, -3, 1], [1, -1], [0, 0], [], [5], [7], [6, -5, 4, -3]]
-        first = [minimal_solutions(coefficients) for coefficients in lists]
-        kept = [list(answer) for answer in first]
-        for answer in first:
-            answer.append(99)
-            answer[0] = 98
-        self.assertEqual([minimal_solutions(coefficients) for coefficients in lists], kept)
-
-    def test_it_prints_nothing(self):
-        shown = io.StringIO()
-        with contextlib.redirect_stdout(shown), contextlib.redirect_stderr(shown):
-            minimal_solutions([2, -3, 1])
-            minimal_solutions([])
-        self.assertEqual(shown.getvalue(), "")
 
 
 if __name__ == "__main__":
