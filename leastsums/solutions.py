@@ -24,7 +24,7 @@ def minimal_solutions(coefficients):
 
 def evaluate(coefficients, x):
     """1 if x is a solution and 0 otherwise, then the value of the linear form."""
-    if not coefficients_allowed(coefficients) or not vector_allowed(coefficients, x):
+    if not arguments_allowed(coefficients, x):
         return [OUTSIDE_LIMITS]
     value = form_value(coefficients, x)
     return [1 if value == 0 else 0, value]
@@ -39,13 +39,26 @@ def decompose(coefficients, x):
     return [sum(multiplicities)] + multiplicities
 
 
+def count_decompositions(coefficients, x):
+    """In how many ways x is a sum of minimal solutions, told apart by their multiplicities alone."""
+    refusal = refusal_of_solution(coefficients, x)
+    if refusal is not None:
+        return [refusal]
+    return [ways_to_sum(minimal_vectors(coefficients), x)]
+
+
 def refusal_of_solution(coefficients, x):
     """The code that refuses these arguments where x has to be a solution; None if they are as they should be."""
-    if not coefficients_allowed(coefficients) or not vector_allowed(coefficients, x):
+    if not arguments_allowed(coefficients, x):
         return OUTSIDE_LIMITS
     if form_value(coefficients, x) != 0:
         return NO_SOLUTION
     return None
+
+
+def arguments_allowed(coefficients, x):
+    """Whether the coefficients and x are both within their limits."""
+    return coefficients_allowed(coefficients) and vector_allowed(coefficients, x)
 
 
 def coefficients_allowed(coefficients):
@@ -134,3 +147,22 @@ def times_contained(vector, rest):
 def rest_behind(rest, vector, times):
     """What is left of the rest once the vector is subtracted so many times, as a list of its own."""
     return [high - times * low for low, high in zip(vector, rest)]
+
+
+def ways_to_sum(vectors, x):
+    """How many lists of multiplicities for the vectors have the sum x."""
+    # For each rest of x that the vectors gone through can leave: the number of lists that leave it.
+    ways = {tuple(x): 1}
+    for vector in vectors:
+        ways = ways_behind(ways, vector)
+    return ways.get(tuple([0] * len(x)), 0)
+
+
+def ways_behind(ways, vector):
+    """The rests and their numbers of lists once the vector has been subtracted as often as each list tells."""
+    behind = {}
+    for rest, lists in ways.items():
+        for times in range(times_contained(vector, rest) + 1):
+            left = tuple(rest_behind(rest, vector, times))
+            behind[left] = behind.get(left, 0) + lists
+    return behind

@@ -75,6 +75,32 @@ def greedy_by_definition(minimal, solution):
     return multiplicities
 
 
+def decompositions_by_definition(minimal, solution):
+    """The lists of multiplicities for the minimal solutions that have this sum, each one written out."""
+    begun = [([], list(solution))]
+    for vector in minimal:
+        longer = []
+        for multiplicities, rest in begun:
+            times = 0
+            while all(element >= 0 for element in rest):
+                longer.append((multiplicities + [times], rest))
+                rest = [rest[place] - vector[place] for place in range(len(rest))]
+                times += 1
+        begun = longer
+    return [multiplicities for multiplicities, rest in begun if not any(rest)]
+
+
+def expected_answers(coefficients, values, answer_to_solution):
+    """Each vector with elements among the values, and what is to be answered where it has to be a solution."""
+    # Nothing minimal has an element above 6.
+    minimal = minimal_by_definition(coefficients, 6)
+    for vector in vectors_of_elements(values, len(coefficients)):
+        if linear_form(coefficients, vector) == 0:
+            yield vector, answer_to_solution(minimal, vector)
+        else:
+            yield vector, NO_SOLUTION
+
+
 def sum_of_multiples(multiplicities, vectors, length):
     total = [0] * length
     for times, vector in zip(multiplicities, vectors, strict=True):
@@ -101,6 +127,19 @@ def all_coefficients(length):
 def some_of_four(step):
     """Each step-th one of all the lists of four coefficients."""
     return all_coefficients(4)[::step]
+
+
+def many_solutions():
+    """Many coefficients, each with many of its solutions one after the other."""
+    for coefficients in all_coefficients(1) + all_coefficients(2):
+        for solution in solutions_of_elements(coefficients, range(13)):
+            yield coefficients, solution
+    for coefficients in all_coefficients(3)[::5]:
+        for solution in solutions_of_elements(coefficients, (0, 1, 2, 4, 7, 9, 12)):
+            yield coefficients, solution
+    for coefficients in some_of_four(197):
+        for solution in solutions_of_elements(coefficients, (0, 1, 6, 11, 12)):
+            yield coefficients, solution
 
 
 def refuse_change(*arguments, **keywords):
@@ -183,3 +222,19 @@ class LimitsTests:
         self.check_refused([1, 2, 3, 4, 5], [13, 0, 0, 0, 0])
         self.check_refused([1, 2, 3, 4, 5, 6], [])
         self.check_refused([2147483647, -2147483648], [4294967295, 4294967295])
+
+
+class SolutionTests(LimitsTests, InterfaceTests):
+    """What holds for an operation on coefficients and an x that has to be a solution."""
+
+    CALLS = [
+        ([2, -3, 1], [3, 3, 3]), ([2, -3, 1], [1, 0, 0]), ([-6], [0]), ([0, 0, 0, 0], [0, 12, 1, 5]), ([1, 2], [0, 0]),
+        ([6, -6, 6, -6], [12, 12, 12, 12]), ([-6, -6, 5, 5], [10, 10, 12, 12]), ([2, -3, 1], [0, 0, 0]),
+        ([], []), ([7], [1]), ([1, -1], [13, 13]), ([1, -1], [1]), ([1, 2, 3, 4, 5], [1, 1, 1, 1, 1]),
+    ]
+
+    def test_no_solution_within_the_limits(self):
+        for coefficients, x in (
+                ([1], [1]), ([-6], [12]), ([1, -1], [12, 11]), ([2, -3, 1], [0, 0, 1]), ([6, 6, 6, 6], [0, 0, 0, 1]),
+                ([0, 0, 0, 1], [12, 12, 12, 1]), ([-2, 1, 0, 0], [11, 0, 9, 9]), ([-3, 0], [11, 0])):
+            self.assertEqual(self.operation(coefficients, x), NO_SOLUTION, (coefficients, x))

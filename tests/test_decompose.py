@@ -27,14 +27,12 @@ class Ordinary(unittest.TestCase):
 
 
 class AgainstTheDefinition(unittest.TestCase):
+    def answer_by_definition(self, minimal, solution):
+        multiplicities = helper.greedy_by_definition(minimal, solution)
+        return [sum(multiplicities)] + multiplicities
+
     def check(self, coefficients, values):
-        # Nothing minimal has an element above 6.
-        minimal = helper.minimal_by_definition(coefficients, 6)
-        for vector in helper.vectors_of_elements(values, len(coefficients)):
-            expected = helper.NO_SOLUTION
-            if helper.linear_form(coefficients, vector) == 0:
-                multiplicities = helper.greedy_by_definition(minimal, vector)
-                expected = [sum(multiplicities)] + multiplicities
+        for vector, expected in helper.expected_answers(coefficients, values, self.answer_by_definition):
             self.assertEqual(decompose(coefficients, vector), expected, (coefficients, vector))
 
     def test_every_list_of_one(self):
@@ -115,43 +113,20 @@ class Edges(unittest.TestCase):
         ])
 
 
-class Refusals(helper.LimitsTests, unittest.TestCase):
-    operation = staticmethod(decompose)
-
-    def test_no_solution_within_the_limits(self):
-        for coefficients, x in (
-                ([1], [1]), ([-6], [12]), ([1, -1], [12, 11]), ([2, -3, 1], [0, 0, 1]), ([6, 6, 6, 6], [0, 0, 0, 1]),
-                ([0, 0, 0, 1], [12, 12, 12, 1]), ([-2, 1, 0, 0], [11, 0, 9, 9]), ([-3, 0], [11, 0])):
-            self.assertEqual(decompose(coefficients, x), helper.NO_SOLUTION, (coefficients, x))
-
-
 class Requirements(unittest.TestCase):
-    def check(self, coefficients, values):
-        length = len(coefficients)
-        minimal = helper.vectors_of(minimal_solutions(coefficients), length)
-        for solution in helper.solutions_of_elements(coefficients, values):
+    def test_a_solution_is_the_sum_of_its_decomposition(self):
+        for coefficients, solution in helper.many_solutions():
+            length = len(coefficients)
             answer = decompose(coefficients, solution)
             self.assertEqual(answer[0], sum(answer[1:]), (coefficients, solution))
             self.assertTrue(all(times >= 0 for times in answer), (coefficients, solution))
+            minimal = helper.vectors_of(minimal_solutions(coefficients), length)
             total = helper.sum_of_multiples(answer[1:], minimal, length)
             self.assertEqual(total, solution, coefficients)
 
-    def test_a_solution_is_the_sum_of_its_decomposition(self):
-        for coefficients in helper.all_coefficients(1) + helper.all_coefficients(2):
-            self.check(coefficients, range(13))
-        for coefficients in helper.all_coefficients(3)[::5]:
-            self.check(coefficients, (0, 1, 2, 4, 7, 9, 12))
-        for coefficients in helper.some_of_four(131):
-            self.check(coefficients, (0, 1, 6, 11, 12))
 
-
-class Interface(helper.InterfaceTests, unittest.TestCase):
+class RefusalsAndInterface(helper.SolutionTests, unittest.TestCase):
     operation = staticmethod(decompose)
-    CALLS = [
-        ([2, -3, 1], [3, 3, 3]), ([2, -3, 1], [1, 0, 0]), ([-6], [0]), ([0, 0, 0, 0], [0, 12, 1, 5]), ([1, 2], [0, 0]),
-        ([-6, -6, 5, 5], [10, 10, 12, 12]), ([2, -3, 1], [0, 0, 0]),
-        ([], []), ([7], [1]), ([1, -1], [13, 13]), ([1, -1], [1]), ([1, 2, 3, 4, 5], [1, 1, 1, 1, 1]),
-    ]
 
     def test_the_arguments_are_called_as_told(self):
         self.assertEqual(decompose(coefficients=[1, -1], x=[2, 2]), [2, 2])

@@ -12,6 +12,7 @@ INTERFACE = {
     "minimal_solutions": ["coefficients"],
     "evaluate": ["coefficients", "x"],
     "decompose": ["coefficients", "x"],
+    "count_decompositions": ["coefficients", "x"],
 }
 
 OWN_NAMES_OF_PYTHON = set("""
