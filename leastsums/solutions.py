@@ -3,6 +3,7 @@
 Each operation answers one list of whole numbers. A refusal is a list of its code alone.
 """
 
+NO_ELEMENT = -2
 OUTSIDE_LIMITS = -22
 NO_SOLUTION = -33
 
@@ -45,6 +46,20 @@ def count_decompositions(coefficients, x):
     if refusal is not None:
         return [refusal]
     return [ways_to_sum(minimal_vectors(coefficients), x)]
+
+
+def smallest_with(index, coefficients):
+    """The smallest sum of a minimal solution with a value above 0 at the index, then that minimal solution."""
+    if not coefficients_allowed(coefficients):
+        return [OUTSIDE_LIMITS]
+    if index >= len(coefficients):
+        return [NO_ELEMENT]
+    candidates = [vector for vector in minimal_vectors(coefficients) if vector[index] > 0]
+    if not candidates:
+        return [NO_SOLUTION]
+    # Of several with the same sum min takes the first one, which is the one with the lowest number.
+    smallest = min(candidates, key=sum)
+    return [sum(smallest)] + smallest
 
 
 def refusal_of_solution(coefficients, x):

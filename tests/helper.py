@@ -5,6 +5,7 @@ import io
 import itertools
 
 REFUSAL = [-22]
+NO_ELEMENT = [-2]
 NO_SOLUTION = [-33]
 
 # Each one is outside the limits, and may be handed in all the same.
@@ -88,6 +89,16 @@ def decompositions_by_definition(minimal, solution):
                 times += 1
         begun = longer
     return [multiplicities for multiplicities, rest in begun if not any(rest)]
+
+
+def smallest_by_definition(minimal, index):
+    """What is to be answered of the minimal solutions with a positive element at the index."""
+    smallest = None
+    # Only a smaller sum takes the place of what a lower number brought.
+    for vector in minimal:
+        if vector[index] > 0 and (smallest is None or sum(vector) < smallest[0]):
+            smallest = [sum(vector), *vector]
+    return NO_SOLUTION if smallest is None else smallest
 
 
 def expected_answers(coefficients, values, answer_to_solution):

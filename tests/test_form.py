@@ -13,6 +13,7 @@ INTERFACE = {
     "evaluate": ["coefficients", "x"],
     "decompose": ["coefficients", "x"],
     "count_decompositions": ["coefficients", "x"],
+    "smallest_with": ["index", "coefficients"],
 }
 
 OWN_NAMES_OF_PYTHON = set("""
