@@ -62,6 +62,15 @@ def smallest_with(index, coefficients):
     return [sum(smallest)] + smallest
 
 
+def contained_solutions(coefficients, x):
+    """How many minimal solutions are contained in x, then their numbers in increasing order."""
+    if not arguments_allowed(coefficients, x):
+        return [OUTSIDE_LIMITS]
+    vectors = minimal_vectors(coefficients)
+    numbers = [number for number, vector in enumerate(vectors) if is_contained(vector, x)]
+    return [len(numbers)] + numbers
+
+
 def refusal_of_solution(coefficients, x):
     """The code that refuses these arguments where x has to be a solution; None if they are as they should be."""
     if not arguments_allowed(coefficients, x):

@@ -101,6 +101,11 @@ def smallest_by_definition(minimal, index):
     return NO_SOLUTION if smallest is None else smallest
 
 
+def contained_by_definition(minimal, vector):
+    """The numbers of the minimal solutions that are contained in the vector."""
+    return [number for number in range(len(minimal)) if contained(minimal[number], vector)]
+
+
 def expected_answers(coefficients, values, answer_to_solution):
     """Each vector with elements among the values, and what is to be answered where it has to be a solution."""
     # Nothing minimal has an element above 6.

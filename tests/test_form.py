@@ -14,6 +14,7 @@ INTERFACE = {
     "decompose": ["coefficients", "x"],
     "count_decompositions": ["coefficients", "x"],
     "smallest_with": ["index", "coefficients"],
+    "contained_solutions": ["coefficients", "x"],
 }
 
 OWN_NAMES_OF_PYTHON = set("""
